@@ -3,12 +3,9 @@ package setting
 import (
 	"bytes"
 	"math"
-	"slices"
 	"testing"
 
 	"reservoir/api"
-	"reservoir/frame"
-	"reservoir/shape"
 )
 
 func TestP11_1Value(t *testing.T) {
@@ -84,13 +81,5 @@ func TestP11_5Concatenation(t *testing.T) {
 		if back, code := Apply(front, l[i:]); back != whole || code != api.NoError {
 			t.Error(i, back, code)
 		}
-	}
-}
-
-func TestP11_5ShapeReadsWhatPutWrote(t *testing.T) {
-	l := []api.Setting{{Id: 0, Value: 0}, {Id: 65535, Value: 1<<32 - 1}, {Id: 4, Value: api.MaxWindow}, {Id: 5, Value: api.MaxFrame}, {Id: 258, Value: 16909060}}
-	f := api.Frame{Type: api.TSettings, Payload: Put(l)}
-	if p, bad := shape.Of(f); !slices.Equal(p.Settings, l) || bad != (api.Bad{}) || !frame.Right(f) {
-		t.Error(p, bad)
 	}
 }
