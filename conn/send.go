@@ -10,8 +10,8 @@ import (
 // space reports whether the queue takes what is not a reply.
 func (c *Conn) space() bool { return len(c.queue) < half }
 
-// fit reports whether rows can be sent at all.
-func fit(l []api.Row) bool {
+// Fit reports whether rows can be sent at all, as a head.
+func Fit(l []api.Row) bool {
 	sum := 0
 	for _, r := range l {
 		if len(r.Name) > api.MaxText || len(r.Value) > api.MaxText {
@@ -27,7 +27,7 @@ func (c *Conn) Start(l []api.Row, end bool) (int, bool) {
 	if c.dead || c.server || c.gone || c.next > api.MaxStream {
 		return 0, false
 	}
-	if len(c.streams) >= c.peer.Streams || !c.space() || !fit(l) {
+	if len(c.streams) >= c.peer.Streams || !c.space() || !Fit(l) {
 		return 0, false
 	}
 	s := c.begin(c.next)
@@ -39,7 +39,7 @@ func (c *Conn) Start(l []api.Row, end bool) (int, bool) {
 // Head sends the head l on a stream.
 func (c *Conn) Head(id int, l []api.Row, end bool) bool {
 	s := c.find(id)
-	if !sendable(s) || s.sent && !end || !c.space() || !fit(l) {
+	if !sendable(s) || s.sent && !end || !c.space() || !Fit(l) {
 		return false
 	}
 	c.sendHead(s, l, end)
