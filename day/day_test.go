@@ -26,7 +26,9 @@ func TestP17_1ReadRejects(t *testing.T) {
 		"sun, 06 Nov 1994 08:49:37 GMT", "Sun, 06 nov 1994 08:49:37 GMT", "Sun, 06 anF 1994 08:49:37 GMT", "Sun, 06 Nov 1994 08:49:37 UTC", "Sun, 06 Nov 1994 08:49:37 gmt",
 		"Sun; 06 Nov 1994 08:49:37 GMT", "Sun, 06 Nov 1994 08.49:37 GMT", "Sun, 06 Nov 1994 08:49.37 GMT", "Sun, 06-Nov 1994 08:49:37 GMT", "Sun, 06 Nov-1994 08:49:37 GMT", "Sun, 06 Nov 1994-08:49:37 GMT", "Sun, 06 Nov 1994 08:49:37-GMT", "Sun,-06 Nov 1994 08:49:37 GMT",
 		"Sun,  6 Nov 1994 08:49:37 GMT", "Sun, 6 Nov 1994 08:49:37 GMT", "Sun, +6 Nov 1994 08:49:37 GMT", "Sun, 06 Nov +994 08:49:37 GMT", "Sun, 06 Nov 1994 -8:49:37 GMT", "Sun, 06 Nov 1994 08:-9:37 GMT", "Sun, 06 Nov 1994 08:49:/7 GMT", "Sun, 06 Nov 1994 08:49::7 GMT",
-		"Sun, 06 Nov 1994 08:49:37 GMT ", " Sun, 06 Nov 1994 08:49:37 GMT", "Sun, 06 Nov 1994 08:49:37 GM", "Sun, 06 \xc3\xa9v 1994 08:49:37 GMT", "0", "Xxx, 06 Nov 1994 08:49:37 GMT", "Sun, 06 Nov 9999 08:49:37 GMT", "Sun, 06 Nov 0000 08:49:37 GMT",
+		"Sun, 06 Nov 1994 08:49:37 GMT ", " Sun, 06 Nov 1994 08:49:37 GMT", "Sun, 06 Nov 1994 08:49:37 GM", "Sun, 06 \xc3\xa9v 1994 08:49:37 GMT", "0", "Xxx, 06 Nov 1994 08:49:37 GMT", "Sun, 06 Nov 9999 08:49:37 GMT",
+		// Bytes beside the digits that add up to the right numbers.
+		"Sun, /@ Nov 1994 08:49:37 GMT", "Sun, 06 Nov 1994 08:49:2A GMT", "Sun, 06 Nov 198> 08:49:37 GMT", "Sun, 06 Nov 1994 /B:49:37 GMT", "Sun, 06 Nov 1994 08:3C:37 GMT", "Sun, 06 Nov 0000 08:49:37 GMT",
 	} {
 		if got, ok := Read(s); got != 0 || ok {
 			t.Error(s, got, ok)

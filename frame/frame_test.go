@@ -104,6 +104,16 @@ func TestP9_2NewAndResize(t *testing.T) {
 	}
 }
 
+func TestP9_3LengthsOfThreeBytes(t *testing.T) {
+	r := made(t, api.MaxFrame, false)
+	for _, n := range []int{0x010203, 0x0300ff, 0x8000} {
+		f := api.Frame{Type: 9, Stream: 0x7f000001, Payload: bytes.Repeat([]byte{5}, n)}
+		if l, bad := r.Feed(Put(nil, f)); len(l) != 1 || !same(l[0], f) || bad != (api.Bad{}) || r.Left() != 0 {
+			t.Error(n, len(l), bad)
+		}
+	}
+}
+
 func TestP9_2ResizeAppliesToFramesThatCome(t *testing.T) {
 	r := made(t, api.MinFrame+1, false)
 	big := Put(nil, api.Frame{Payload: make([]byte, api.MinFrame+1)})

@@ -72,6 +72,7 @@ func TestP18_3May(t *testing.T) {
 		{get(), answer(302, "cache-control", "max-age=0"), true},
 		{get(), answer(302, "cache-control", "max-age"), true},
 		{get(), answer(302, "cache-control", "s-maxage=5"), true},
+		{get(), answer(302, "cache-control", "s-maxage=0"), true},
 		{get(), answer(302, "cache-control", "public"), true},
 		{get(), answer(302, "expires", "x"), true},
 		{get(), answer(302, "cache-control", "must-revalidate"), false},

@@ -134,6 +134,8 @@ func TestP22_4SameByTag(t *testing.T) {
 		{entry("etag", `"x"`), request("if-none-match", `w/"x"`), false},
 		{entry("etag", `"x"`), request("if-none-match", `W/W/"x"`), false},
 		{entry("etag", `"x"`), request("if-none-match", ""), false},
+		{entry("etag", ""), request("if-none-match", "W/"), true},
+		{entry("etag", "W/"), request("if-none-match", "W"), false},
 		{entry("etag", `"x"`), request("if-none-match", "*"), true},
 		{entry(), request("if-none-match", `"y", *`), true},
 		{entry(), request("if-none-match", `"y"`), false},

@@ -185,7 +185,7 @@ func TestP15_5Response(t *testing.T) {
 	if !reflect.DeepEqual(s, api.Response{Status: 200, Fields: list("content-length", "5", "content-length", "5"), Length: 5}) || !ok {
 		t.Error(s, ok)
 	}
-	for status, want := range map[string]bool{"100": true, "101": false, "102": true, "199": true, "200": true, "304": true, "599": true, "600": false, "099": false, "99": false, "1000": false, "": false, "20a": false, "+20": false, "2 0": false, "000": false, "999": false} {
+	for status, want := range map[string]bool{"100": true, "101": false, "102": true, "199": true, "200": true, "304": true, "599": true, "600": false, "099": false, "99": false, "1000": false, "0200": false, "": false, "20a": false, "+20": false, "2 0": false, "000": false, "999": false} {
 		if got := isResponse(list(":status", status, "a", "b")); got != want {
 			t.Error(status, got)
 		}

@@ -132,6 +132,18 @@ func TestP23_2PutReplacesWhatMatches(t *testing.T) {
 	if e, ok := s.Peek(request("a", "accept", "x")); e.Body != "3" || !ok || s.Len() != 3 {
 		t.Error(e, ok)
 	}
+	// The others of the key are still there, and go on being found.
+	for range 2 {
+		for accept, body := range map[string]string{"x": "3", "y": "2"} {
+			if e, ok := s.Get(request("a", "accept", accept)); e.Body != body || !ok {
+				t.Error(accept, e, ok)
+			}
+		}
+	}
+	s.Put(varied("a", "y", "6"))
+	if n := s.Remove("http://a/"); n != 2 || s.Len() != 1 {
+		t.Error(n)
+	}
 	// An entry without vary matches both; but it goes as one of them alone.
 	s = made(t, 10000, varied("a", "x", "1"), varied("a", "y", "2"), varied("a", "", "4"))
 	e := plain("a", 0)

@@ -140,10 +140,15 @@ func TestP6_5Find(t *testing.T) {
 		{field("yy", "1"), 0, false},
 		{field("", ""), 0, false},
 		{field("www-authenticate", ""), 61, true},
+		{field(":authority", ""), 1, true},
+		{field(":authority", "a"), 1, false},
 	} {
 		if i, whole := x.Find(c.f); i != c.i || whole != c.whole {
 			t.Error(c, i, whole)
 		}
+	}
+	if i, whole := made(t, 100, field("old", "1"), field("new", "2")).Find(field("old", "1")); i != 63 || !whole {
+		t.Error("the oldest one", i, whole)
 	}
 	y := made(t, 0)
 	if i, whole := y.Find(field("age", "5")); i != 21 || whole {

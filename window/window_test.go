@@ -104,6 +104,8 @@ func TestP12_3Shift(t *testing.T) {
 		{made(t, 20), 100, 10, -70, true},
 		{made(t, 20), 10, 100, 110, true},
 		{made(t, 20), 7, 7, 20, true},
+		{made(t, 20), 0, 5, 25, true},
+		{made(t, 20), 5, 0, 15, true},
 		{made(t, 20), -1, 7, 20, false},
 		{made(t, 20), 7, -1, 20, false},
 		{made(t, 20), top + 1, 7, 20, false},
