@@ -950,6 +950,18 @@ func TestP24_6ResetAndCredit(t *testing.T) {
 	}
 }
 
+func TestP24_6NumbersOfFourBytes(t *testing.T) {
+	c := begun(t, true, api.Config{Streams: 1, Window: 65535, List: 1000})
+	if !c.Credit(1, 0x01020304) {
+		t.Error("credit")
+	}
+	says(t, c, fr(api.TWindow, 0, 0, 1, 2, 3, 4))
+	happens(t, c, wire(get(0x050607, false)), got(0x050607, false))
+	c.Reset(0x050607, 0x0a0b0c0d)
+	c.Shut(0x11121314)
+	says(t, c, fr(api.TReset, 0, 0x050607, 10, 11, 12, 13), fr(api.TGoAway, 0, 0, 0, 5, 6, 7, 0x11, 0x12, 0x13, 0x14))
+}
+
 func TestP24_6CreditMayKill(t *testing.T) {
 	c := begun(t, true, small)
 	happens(t, c, wire(get(1, false)), got(1, false))

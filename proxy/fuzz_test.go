@@ -149,6 +149,20 @@ func (w *world) step(d *dice) {
 	}
 }
 
+// quiet lets everybody give up what is under way.
+func (w *world) quiet() {
+	w.pump()
+	for _, l := range []map[int]*side{w.down, w.up} {
+		for _, s := range l {
+			ids, _ := s.c.Streams()
+			for _, id := range ids {
+				s.c.Reset(id, api.Cancel)
+			}
+		}
+		w.pump()
+	}
+}
+
 func TestP26_8WhateverIsReceived(t *testing.T) {
 	served, reset := 0, 0
 	for seed := range 300 {
@@ -161,6 +175,8 @@ func TestP26_8WhateverIsReceived(t *testing.T) {
 			}
 		}
 		w.legal()
+		w.quiet()
+		w.balanced()
 		for _, s := range w.down {
 			for _, h := range s.on {
 				for _, f := range h.fields {

@@ -114,6 +114,7 @@ func TestP26_3MalformedRequests(t *testing.T) {
 	w.open(0)
 	w.isReset(0, w.get(0, "/", "X", "y"), api.Protocol)
 	w.isReset(0, w.get(0, "/", "content-length", "5"), api.Protocol)
+	w.isReset(0, w.get(0, "/", "content-length", "1"), api.Protocol)
 	w.isReset(0, w.ask(0, false, "CONNECT", "/"), api.Protocol)
 	w.forwarded(0, 0)
 	w.get(0, "/", "content-length", "0")
@@ -176,6 +177,85 @@ func TestP26_3WrongLengths(t *testing.T) {
 			t.Error(i, w.p.Under())
 		}
 	}
+}
+
+func TestP26_3ALengthOfNothing(t *testing.T) {
+	w := newWorld(t, config())
+	s := w.open(0)
+	a, b := w.ask(0, false, "POST", "/", "content-length", "0"), w.ask(0, false, "POST", "/", "content-length", "0")
+	s.c.Data(a, "x", false)
+	s.c.Data(b, "", true)
+	w.pump()
+	w.isReset(0, a, api.Protocol)
+	w.cancelled(0, 1, api.Cancel)
+	w.isQuiet(0, b)
+	if h := w.up[0].on[3]; !h.end || h.reset {
+		t.Error(h)
+	}
+}
+
+func TestP26_3SingleBytes(t *testing.T) {
+	w := newWorld(t, config())
+	s := w.open(0)
+	id := w.ask(0, false, "POST", "/")
+	for i, c := range []string{"a", "b", ""} {
+		s.c.Data(id, c, i == 2)
+		w.pump()
+	}
+	if h := w.up[0].on[1]; h.body != "ab" || !h.end {
+		t.Error(h)
+	}
+	w.tell(0, 1, "c", false, ":status", "200")
+	w.more(0, 1, "d", false)
+	if h := s.on[id]; h.body != "cd" {
+		t.Error(h)
+	}
+	w.more(0, 1, "", true)
+	w.has(0, id, "cd", ":status", "200", "via", "2 reservoir")
+	w.balanced()
+}
+
+func TestP26_3LeavingWithPendingContent(t *testing.T) {
+	w := newWorld(t, config())
+	s := w.open(0)
+	other := w.open(1)
+	w.get(0, "/first")
+	w.up[0].mean = true
+	id := w.ask(0, false, "POST", "/")
+	s.c.Data(id, repeat("x", 65535), false)
+	w.pump()
+	s.c.Data(id, repeat("x", 30000), false)
+	w.pump()
+	if h := w.up[0].on[3]; len(h.body) != 65535 {
+		t.Error(len(h.body))
+	}
+	w.leave(0)
+	w.cancelled(0, 3, api.Cancel)
+	other.c.Shut(api.NoError)
+	w.pump()
+	w.balanced()
+}
+
+func TestP26_3APlaceThatIsTakenAgain(t *testing.T) {
+	// What goes on alone is not for the next client of the same place.
+	w := newWorld(t, config())
+	w.open(0)
+	w.open(1)
+	w.get(0, "/")
+	waits := w.get(1, "/")
+	w.leave(0)
+	w.open(0)
+	mine := w.ask(0, false, "POST", "/mine")
+	w.down[0].c.Data(mine, "x", false)
+	w.pump()
+	w.tell(0, 1, "hi", true, ":status", "200", "cache-control", "max-age=5")
+	w.isQuiet(0, mine)
+	w.has(1, waits, "hi", ":status", "200", "cache-control", "max-age=5", "age", "0", "via", "2 reservoir")
+	w.down[0].c.Data(mine, "y", true)
+	w.pump()
+	w.tell(0, 3, "yours", true, ":status", "201")
+	w.has(0, mine, "yours", ":status", "201", "via", "2 reservoir")
+	w.balanced()
 }
 
 func TestP26_3FlowOfRequestContent(t *testing.T) {
@@ -412,6 +492,10 @@ func TestP26_4Validation(t *testing.T) {
 	w.tell(0, 3, "", true, ":status", "304", "b", "2", "cache-control", "max-age=7")
 	w.has(0, id, "hi", ":status", "200", "etag", `"x"`, "b", "2", "cache-control", "max-age=7", "age", "2", "via", "2 reservoir")
 	w.has(0, w.get(0, "/"), "hi", ":status", "200", "etag", `"x"`, "b", "2", "cache-control", "max-age=7", "age", "2", "via", "2 reservoir")
+	// Nothing is paid that the origin didn't send.
+	if got, given := w.up[0].balance(false); got != given || got != 2 {
+		t.Error(got, given)
+	}
 	// Another status replaces the entry.
 	w.tell(0, 5, "new", true, ":status", "200", "cache-control", "max-age=9")
 	w.has(0, w.get(0, "/"), "new", ":status", "200", "cache-control", "max-age=9", "age", "2", "via", "2 reservoir")
@@ -514,6 +598,115 @@ func TestP26_5DeadOrGoneOrigins(t *testing.T) {
 	if len(w.dials) != 2 || w.p.Under() != 1 {
 		t.Error(w.dials)
 	}
+}
+
+func TestP26_5RefusedWhileOthersWait(t *testing.T) {
+	w := newWorld(t, config())
+	w.open(0)
+	w.open(1)
+	w.manual = true
+	w.get(0, "/1")
+	w.carry(w.down[0], 0, api.PBytes, api.PRoom, lots)
+	w.up[0].c, _ = conn.New(true, api.Config{Streams: 1, Window: 65535, List: 65536})
+	w.manual = false
+	w.pump()
+	// Two are to be forwarded; two wait for them; one of the former is alone.
+	a, b := w.get(0, "/2"), w.get(1, "/2")
+	c, d := w.get(0, "/3"), w.get(1, "/3")
+	w.down[0].c.Reset(c, api.Cancel)
+	w.pump()
+	if w.p.Under() != 5 {
+		t.Error(w.p.Under())
+	}
+	w.do(api.Act{Kind: api.PUpBytes, Bytes: frame.Put(nil, api.Frame{Type: api.TGoAway, Payload: []byte{0, 0, 0, 1, 0, 0, 0, 0}})})
+	if w.p.Under() != 1 {
+		t.Error(w.p.Under())
+	}
+	w.pump()
+	w.has(0, a, "", own("502")...)
+	w.has(1, b, "", own("502")...)
+	w.has(1, d, "", own("502")...)
+	w.isQuiet(0, c)
+}
+
+func TestP26_5AnsweredOnce(t *testing.T) {
+	// A refused transaction whose answer can't go yet stays refused.
+	cfg := config()
+	cfg.Ups = 1
+	w := newWorld(t, cfg)
+	s := w.open(0)
+	other := w.open(1)
+	w.get(1, "/")
+	id, _ := s.c.Start(asRows(list(":method", "GET", ":scheme", "https", ":authority", "b", ":path", "/")), true)
+	b := bytes.Repeat(frame.Put(nil, api.Frame{Type: api.TPing, Payload: make([]byte, 8)}), api.MaxQueue/2/17+1)
+	b = append(b, s.c.Out(lots)...)
+	s.moves = append(s.moves, api.Move{Bytes: b})
+	w.do(api.Act{Kind: api.PBytes, Bytes: b})
+	if w.p.Under() != 2 || len(w.dials) != 1 {
+		t.Error(w.p.Under(), w.dials)
+	}
+	w.cut(0)
+	w.has(0, id, "", own("503")...)
+	if len(w.dials) != 1 || other.on[1].fields[0].Value != "502" {
+		t.Error(w.dials)
+	}
+	w.balanced()
+}
+
+func TestP26_2And5AtOnce(t *testing.T) {
+	// One action does all that can be done by it.
+	w := newWorld(t, config())
+	s := w.open(0)
+	w.get(0, "/")
+	if !w.up[0].on[1].atOnce {
+		t.Error("the end comes with the head")
+	}
+	w.up[0].c.Head(1, asRows(list(":status", "204")), true)
+	w.do(api.Act{Kind: api.PUpBytes, Bytes: w.up[0].c.Out(lots)})
+	if down, _ := w.p.Waiting(); w.p.Under() != 0 || down[0] == 0 {
+		t.Error(w.p.Under(), down)
+	}
+	s.events(s.c.Feed(w.do(api.Act{Kind: api.PRoom, Size: lots}).Bytes))
+	if h := s.on[1]; h == nil || !h.atOnce || h.fields[0].Value != "204" {
+		t.Error(h)
+	}
+	// A served entry without content, too; and an answer of its own.
+	w.get(0, "/")
+	if h := s.on[w.get(0, "/x", "cache-control", "only-if-cached")]; !h.atOnce {
+		t.Error(h)
+	}
+}
+
+func TestP26_2RoomIsUsed(t *testing.T) {
+	// The room that PRoom makes is used in the same action.
+	cfg := config()
+	cfg.Conn.Window = 1 << 20
+	cfg.Budget = 0
+	w := newWorld(t, cfg)
+	s := w.open(0)
+	w.pump()
+	s.c.Credit(99, 1<<20-70000)
+	id := w.get(0, "/")
+	w.manual = true
+	w.tell(0, 1, "", false, ":status", "200")
+	for range 3 {
+		w.more(0, 1, repeat("x", 60000), false)
+		w.carry(w.up[0], 0, api.PUpBytes, api.PUpRoom, lots)
+	}
+	before, _ := w.p.Waiting()
+	d := w.do(api.Act{Kind: api.PRoom, Size: lots})
+	after, _ := w.p.Waiting()
+	s.moves = append(s.moves, api.Move{Said: true, Bytes: d.Bytes})
+	s.events(s.c.Feed(d.Bytes))
+	if len(d.Bytes) != before[0] || before[0] < api.MaxQueue/2 || after[0] < 40000 {
+		t.Error(len(d.Bytes), before, after)
+	}
+	w.manual = false
+	w.more(0, 1, "", true)
+	if h := s.on[id]; len(h.body) != 180000 || !h.end {
+		t.Error(len(h.body))
+	}
+	w.balanced()
 }
 
 func TestP26_5HeadsThatDoNotFit(t *testing.T) {
@@ -750,7 +943,7 @@ func TestP26_6Lengths(t *testing.T) {
 		method, status, length, body string
 		good                         bool
 	}{
-		{"GET", "200", "2", "hi", true}, {"GET", "200", "0", "", true}, {"GET", "200", "3", "hi", false}, {"GET", "200", "1", "hi", false}, {"GET", "200", "5", "", false},
+		{"GET", "200", "0", "hi", false}, {"GET", "200", "2", "hi", true}, {"GET", "200", "0", "", true}, {"GET", "200", "3", "hi", false}, {"GET", "200", "1", "hi", false}, {"GET", "200", "5", "", false},
 		{"HEAD", "200", "5", "", true}, {"HEAD", "200", "5", "hi", false}, {"GET", "204", "5", "", true}, {"GET", "304", "5", "", true}, {"GET", "304", "5", "hi", false}, {"POST", "404", "5", "", false},
 	} {
 		w := newWorld(t, config())
@@ -770,6 +963,108 @@ func TestP26_6Lengths(t *testing.T) {
 				t.Error(i, n, w.p.Under())
 			}
 		}
+	}
+}
+
+func TestP26_6WrongLengthsAreCancelled(t *testing.T) {
+	// The origin still waits for the rest of the request.
+	w := newWorld(t, config())
+	w.open(0)
+	id := w.ask(0, false, "POST", "/")
+	w.tell(0, 1, "hi", true, ":status", "200", "content-length", "3")
+	w.isReset(0, id, api.Internal)
+	w.cancelled(0, 1, api.Cancel)
+	// What the client hasn't got is returned once.
+	w.down[0].mean = true
+	id = w.get(0, "/")
+	w.tell(0, 3, repeat("x", 65000), false, ":status", "200", "content-length", "70000")
+	w.get(0, "/2")
+	w.tell(0, 5, repeat("x", 10000), false, ":status", "200", "content-length", "70000")
+	w.more(0, 5, "", true)
+	w.isReset(0, 5, api.Internal)
+	w.more(0, 3, "", true)
+	w.isReset(0, id, api.Internal)
+	w.balanced()
+}
+
+func TestP26_6WhatIsPaid(t *testing.T) {
+	// A client that gives up, one that is reset, and one that leaves, while
+	// content is pending.
+	text := repeat("x", 40000)
+	for i := range 5 {
+		w := newWorld(t, config())
+		s := w.open(0)
+		s.mean = true
+		a := w.get(0, "/1")
+		w.tell(0, 1, text, false, ":status", "200")
+		b := w.get(0, "/2")
+		w.tell(0, 3, text, false, ":status", "200")
+		switch i {
+		case 0:
+			s.c.Reset(a, api.Cancel)
+			s.c.Reset(b, api.Cancel)
+		case 1:
+			w.up[0].c.Reset(1, api.Internal)
+			w.up[0].c.Reset(3, api.Internal)
+		case 2:
+			w.leave(0)
+		case 3:
+			// Complete, but not sent; then the origin resets nothing, and leaves.
+			w.more(0, 1, "", true)
+			w.more(0, 3, "", true)
+			s.mean = false
+			s.c.Credit(b, 40000)
+		case 4:
+			w.open(1)
+			w.get(1, "/3")
+			c := w.get(0, "/3")
+			w.tell(0, 5, text, false, ":status", "200", "cache-control", "max-age=3")
+			s.c.Reset(a, api.Cancel)
+			s.c.Reset(b, api.Cancel)
+			s.c.Reset(c, api.Cancel)
+			w.pump()
+			w.more(0, 5, text, true)
+		}
+		w.pump()
+		w.balanced()
+	}
+}
+
+func TestP26_6ResetBehindTheEnd(t *testing.T) {
+	// The origin answers early, and resets what it does not want to hear: the
+	// response is whole, and its content is paid once.
+	w := newWorld(t, config())
+	s := w.open(0)
+	s.mean = true
+	w.get(0, "/")
+	w.tell(0, 1, repeat("x", 60000), true, ":status", "200")
+	id := w.ask(0, false, "POST", "/")
+	w.tell(0, 3, repeat("y", 30000), true, ":status", "413")
+	w.up[0].c.Reset(3, api.NoError)
+	w.pump()
+	if w.p.Under() != 1 {
+		t.Error(w.p.Under())
+	}
+	s.mean = false
+	s.c.Credit(99, 60000)
+	w.pump()
+	if h := s.on[id]; len(h.body) != 30000 || !h.end || !h.reset || h.code != api.NoError {
+		t.Error(len(h.body), h.end, h.reset)
+	}
+	w.balanced()
+}
+
+func TestP26_6Hop(t *testing.T) {
+	w := newWorld(t, config())
+	w.open(0)
+	id := w.get(0, "/", "te", "trailers", "a", "b")
+	w.asked(0, 1, "", true, plain("/", "a", "b")...)
+	w.tell(0, 1, "hi", true, ":status", "200", "te", "trailers", "cache-control", "max-age=5", "c", "d")
+	w.has(0, id, "hi", ":status", "200", "cache-control", "max-age=5", "c", "d", "via", "2 reservoir")
+	w.has(0, w.get(0, "/"), "hi", ":status", "200", "cache-control", "max-age=5", "c", "d", "age", "0", "via", "2 reservoir")
+	// The request is stored as it came.
+	if _, size := w.p.Stored(); size != 100+len("https://a/tetrailersabcache-controlmax-age=5cdhi") {
+		t.Error(size)
 	}
 }
 

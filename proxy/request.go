@@ -73,7 +73,7 @@ func (p *Proxy) goesOn(t *trans, e api.Event) {
 // loseAll takes the client away from all transactions of place n.
 func (p *Proxy) loseAll(n int) {
 	for _, t := range p.all() {
-		if !t.ended && !t.alone && t.place == n {
+		if !t.alone && t.place == n {
 			p.lose(t)
 		}
 	}

@@ -48,7 +48,7 @@ func (p *Proxy) ofOrigin(n, stream int) *trans {
 // failAll fails the transactions at the origin's place n on streams after one.
 func (p *Proxy) failAll(n, after int) {
 	for _, t := range p.all() {
-		if !t.ended && t.forwarded && t.up == n && t.upStream > after {
+		if t.forwarded && t.up == n && t.upStream > after {
 			p.fail(t)
 		}
 	}

@@ -19,17 +19,17 @@ func (p *Proxy) settle() {
 	}
 	list := p.all()
 	for _, t := range list {
-		if !t.ended && t.ready {
+		if t.ready {
 			p.forward(t)
 		}
 	}
 	for _, t := range list {
-		if !t.ended && t.forwarded {
+		if t.forwarded {
 			p.ask(t)
 		}
 	}
 	for _, t := range list {
-		if !t.ended && !t.alone {
+		if !t.alone {
 			p.tell(t)
 		}
 	}

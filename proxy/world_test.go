@@ -7,6 +7,7 @@ import (
 
 	"reservoir/api"
 	"reservoir/conn"
+	"reservoir/frame"
 	"reservoir/peer"
 )
 
@@ -22,7 +23,9 @@ type heard struct {
 	heads      int
 	body       string
 	end, reset bool
-	code       api.Code
+	// atOnce: the end came with the head.
+	atOnce bool
+	code   api.Code
 }
 
 // side is the other end of one of the proxy's connections.
@@ -66,6 +69,51 @@ func (w *world) do(a api.Act) api.Done {
 	return d
 }
 
+// balance returns how many bytes of DATA the proxy got from a side, and how
+// many it has returned to the connection.
+func (s *side) balance(server bool) (int, int) {
+	in, _ := frame.New(api.MinFrame, server)
+	out, _ := frame.New(api.MinFrame, !server)
+	got, given := 0, 0
+	for _, m := range s.moves {
+		if m.Said {
+			l, _ := out.Feed(m.Bytes)
+			for _, f := range l {
+				if f.Type == api.TWindow && f.Stream == 0 {
+					given += int(f.Payload[0])<<24 | int(f.Payload[1])<<16 | int(f.Payload[2])<<8 | int(f.Payload[3])
+				}
+			}
+			continue
+		}
+		l, _ := in.Feed(m.Bytes)
+		for _, f := range l {
+			if f.Type == api.TData {
+				got += len(f.Payload)
+			}
+		}
+	}
+	return got, given
+}
+
+// balanced checks that every byte of content was returned once, of all
+// connections that live; nothing must be under way.
+func (w *world) balanced() {
+	w.t.Helper()
+	if w.p.Under() > 0 {
+		w.t.Error("under", w.p.Under())
+	}
+	for n, s := range w.down {
+		if got, given := s.balance(true); got != given && !w.p.downs[n].Dead() {
+			w.t.Error("client", n, got, given)
+		}
+	}
+	for n, s := range w.up {
+		if got, given := s.balance(false); got != given && !w.p.ups[n].conn.Dead() {
+			w.t.Error("origin", n, got, given)
+		}
+	}
+}
+
 // open makes a client at place n.
 func (w *world) open(n int) *side {
 	w.t.Helper()
@@ -93,7 +141,7 @@ func (s *side) events(l []api.Event) {
 		}
 		switch e.Kind {
 		case api.EHead:
-			h.fields, h.end = e.Fields, e.End
+			h.fields, h.end, h.atOnce = e.Fields, e.End, e.End
 			h.heads++
 		case api.EData:
 			h.body += e.Body
