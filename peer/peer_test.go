@@ -284,6 +284,8 @@ func TestP25_3Blocks(t *testing.T) {
 	k.bad(t, ping(), fr(api.TContinuation, 4, 3), head(3, ended), data(1, 1, false), goAway()).says(fr(api.TContinuation, 0, 1, 0x88))
 	k.bad(t, ping(), fr(api.TContinuation, 4, 1, 0x80)).says(fr(api.TContinuation, 4, 1)).bad(t, fr(api.TContinuation, 4, 1)).says(ping()).ok(t)
 	k.bad(t, fr(api.THeaders, last, 3, 0x80), fr(api.THeaders, last, 3, 0xbe), fr(api.THeaders, last, 3, 0x3f, 0xe2, 0x1f), fr(api.THeaders, last, 3, 0x40))
+	// Each block is one by itself: a size comes first in it.
+	begin(true).hears(head(1, ended), head(3, ended)).says(head(1, last), fr(api.THeaders, last, 3, 0x20, 0x88), fr(api.THeaders, ended, 1, 0x20, 0x20, 0x88)).ok(t)
 	// The table goes on from block to block.
 	p, _ := pack.New(4096)
 	l := []api.Row{{Field: api.Field{Name: "x", Value: "y"}, How: 1}}

@@ -992,7 +992,9 @@ func TestP26_6WhatIsPaid(t *testing.T) {
 	// content is pending.
 	text := repeat("x", 40000)
 	for i := range 5 {
-		w := newWorld(t, config())
+		cfg := config()
+		cfg.Budget = 100000
+		w := newWorld(t, cfg)
 		s := w.open(0)
 		s.mean = true
 		a := w.get(0, "/1")
@@ -1016,8 +1018,8 @@ func TestP26_6WhatIsPaid(t *testing.T) {
 			s.c.Credit(b, 40000)
 		case 4:
 			w.open(1)
-			w.get(1, "/3")
 			c := w.get(0, "/3")
+			w.get(1, "/3")
 			w.tell(0, 5, text, false, ":status", "200", "cache-control", "max-age=3")
 			s.c.Reset(a, api.Cancel)
 			s.c.Reset(b, api.Cancel)

@@ -149,6 +149,8 @@ func TestP27_2Clients(t *testing.T) {
 	gives(t, w, api.Step{Kind: api.WHear, N: 1, Size: 10}, ok(10))
 	gives(t, w, api.Step{Kind: api.WClose, N: 1}, ok(0))
 	gives(t, w, api.Step{Kind: api.WClose, N: 1}, api.Got{})
+	gives(t, w, api.Step{Kind: api.WAsk, N: 1, Rows: get("/"), End: true}, api.Got{})
+	gives(t, w, api.Step{Kind: api.WCancel, N: 1, Stream: 1}, api.Got{})
 	if n := w.Proxy().Under(); n != 0 {
 		t.Error(n)
 	}
@@ -202,6 +204,11 @@ func TestP27_2Origins(t *testing.T) {
 	gives(t, w, api.Step{Kind: api.WMore, Stream: 1, Text: "a"}, api.Got{})
 	gives(t, w, api.Step{Kind: api.WCut}, ok(0))
 	gives(t, w, api.Step{Kind: api.WCut}, api.Got{})
+	w = asked(t, "/")
+	gives(t, w, api.Step{Kind: api.WCut}, ok(0))
+	gives(t, w, api.Step{Kind: api.WAnswer, Stream: 1, Rows: rows(":status", "204"), End: true}, api.Got{})
+	gives(t, w, api.Step{Kind: api.WReply, Size: 1000}, api.Got{})
+	gives(t, w, api.Step{Kind: api.WBreak, Stream: 1}, api.Got{})
 }
 
 func TestP27_2Pass(t *testing.T) {
@@ -337,6 +344,24 @@ func TestP27_4TheReceiverCredits(t *testing.T) {
 	if l := w.Told(); len(l) != 2 || len(l[1].Body) != len(text) || !l[1].End {
 		t.Error(sent)
 	}
+}
+
+func TestP27_3And4SingleBytes(t *testing.T) {
+	w := asked(t, "/")
+	w.Run(api.Step{Kind: api.WHear, Size: 1000}, api.Step{Kind: api.WSend, Size: 1000}, api.Step{Kind: api.WHear, Size: 1000})
+	w.Run(api.Step{Kind: api.WAnswer, Stream: 1, Rows: rows(":status", "200"), Text: "x"})
+	n := w.Do(api.Step{Kind: api.WReply, Size: 1 << 20}).Sent - 1
+	if n < 1 {
+		t.Fatal(n)
+	}
+	gives(t, w, api.Step{Kind: api.WHear, Size: 1}, ok(1))
+	if m := w.Moves(0, 0); len(m[len(m)-1].Bytes) != 1 || !m[len(m)-1].Said {
+		t.Error(m)
+	}
+	w.Do(api.Step{Kind: api.WHear, Size: 1000})
+	// The byte is credited: to the stream, and to the connection.
+	gives(t, w, api.Step{Kind: api.WSend, Size: 1000}, ok(26))
+	gives(t, w, api.Step{Kind: api.WSend, Size: 1000}, ok(0))
 }
 
 // dice is a row of numbers that look random, the same in each run.
