@@ -118,6 +118,28 @@ func (d *dice) call(c *conn.Conn) {
 	}
 }
 
+// lateEnd reports whether what is not legal in move i is an empty end of a
+// stream whose window is below 0. P24.5 lets a Conn send it, and P25.3 does not
+// take it for legal: of P25.4, this is what can't hold.
+func lateEnd(server bool, l []api.Move, i int) bool {
+	e := newEnd(server)
+	for _, m := range l[:i] {
+		if m.Said {
+			e.say(m.Bytes)
+		} else {
+			e.hear(m.Bytes)
+		}
+	}
+	list, _ := e.said.Feed(l[i].Bytes)
+	for _, f := range list {
+		if !e.legal(f) {
+			s := e.known[f.Stream]
+			return f.Type == api.TData && f.Flags == api.FEnd && len(f.Payload) == 0 && s != nil && s.window < 0
+		}
+	}
+	return false
+}
+
 func TestP25_4WhatAConnSaysIsLegal(t *testing.T) {
 	lived, bytes := 0, 0
 	for seed := range 3000 {
@@ -165,7 +187,7 @@ func TestP25_4WhatAConnSaysIsLegal(t *testing.T) {
 			lived++
 		}
 		say(1 << 30)
-		if got := Check(server, l); got != -1 {
+		if got := Check(server, l); got != -1 && !lateEnd(server, l, got) {
 			t.Fatal("seed", seed, "move", got, "of", len(l))
 		}
 	}
@@ -174,22 +196,28 @@ func TestP25_4WhatAConnSaysIsLegal(t *testing.T) {
 	}
 }
 
-func TestP25_4AnEndNeedsNoWindow(t *testing.T) {
-	c, _ := conn.New(true, api.Config{Streams: 1, Window: 65535, List: 1000})
-	var l []api.Move
-	hear := func(b []byte) {
-		l = append(l, api.Move{Bytes: b})
-		c.Feed(b)
-	}
-	hear(frame.Put(frame.Put([]byte(frame.Preface), settings()), head(1, ended)))
-	c.Head(1, nil, false)
-	c.Data(1, "0123456789", false)
-	hear(frame.Put(nil, settings(api.Setting{Id: api.SWindow, Value: 3})))
-	if n, ok := c.Data(1, "", true); n != 0 || !ok {
-		t.Error(n, ok)
-	}
-	l = append(l, api.Move{Said: true, Bytes: c.Out(1 << 20)})
-	if got := Check(true, l); got != -1 {
-		t.Error(got)
+func TestP25_3AnEndInAWindowBelow0(t *testing.T) {
+	for _, c := range []struct{ window, want int }{{10, -1}, {9, 3}, {3, 3}, {0, 3}} {
+		n, _ := conn.New(true, api.Config{Streams: 1, Window: 65535, List: 1000})
+		var l []api.Move
+		hear := func(b []byte) {
+			l = append(l, api.Move{Bytes: b})
+			n.Feed(b)
+		}
+		say := func() { l = append(l, api.Move{Said: true, Bytes: n.Out(1 << 20)}) }
+		hear(frame.Put(frame.Put([]byte(frame.Preface), settings()), head(1, ended)))
+		n.Head(1, nil, false)
+		n.Data(1, "0123456789", false)
+		say()
+		hear(frame.Put(nil, settings(api.Setting{Id: api.SWindow, Value: c.window})))
+		// P24.5 asks for no window, so that the end is sent in any case.
+		if sent, ok := n.Data(1, "", true); sent != 0 || !ok {
+			t.Error(c.window, sent, ok)
+		}
+		say()
+		got := Check(true, l)
+		if got != c.want || got != -1 && !lateEnd(true, l, got) {
+			t.Error(c.window, got)
+		}
 	}
 }

@@ -247,8 +247,37 @@ func TestP25_3InitialWindow(t *testing.T) {
 	k.says(data(1, 20, false), head(3, last), ack()).bad(t, data(1, 1, false), data(3, 111, false)).says(data(3, 110, true))
 	k.hears(head(5, ended)).says(head(5, last)).bad(t, data(5, 111, false)).hears(window(50), window(115)).says(ack())
 	k.bad(t, data(5, 51, false)).says(data(5, 50, false), ack(), data(5, 65, false)).bad(t, data(5, 1, false))
-	// Stream 1 is at 115 of 120 now; an empty frame costs nothing.
+	// Stream 1 is 5 below 0 now.
 	k.bad(t, data(1, 1, false)).hears(more(1, 6)).bad(t, data(1, 2, false)).says(data(1, 1, false), data(1, 0, true)).ok(t)
+}
+
+func TestP25_3EmptyData(t *testing.T) {
+	window := func(n int) api.Frame { return settings(api.Setting{Id: api.SWindow, Value: n}) }
+	padded := fr(api.TData, api.FPadded, 1, 0)
+	for _, server := range []bool{true, false} {
+		k := begin(server)
+		if server {
+			k.hears(head(1, ended))
+		}
+		k.says(ack(), head(1, last), data(1, 1, false)).hears(window(0)).says(data(1, 0, false))
+		// At -1 nothing may be sent, at 0 what costs nothing, at 1 one byte.
+		k.says(ack()).bad(t, data(1, 0, false), data(1, 0, true), data(1, 1, false), padded)
+		k.hears(more(0, 100)).bad(t, data(1, 0, false), data(1, 0, true))
+		k.hears(more(1, 1)).bad(t, data(1, 1, true), padded).says(data(1, 0, false)).ok(t)
+		k.hears(more(1, 1)).bad(t, data(1, 2, true)).says(padded, data(1, 0, true)).ok(t)
+	}
+	// The window of the connection may be used up, but is never below 0.
+	k := open()
+	for range 4 {
+		k.says(data(1, 16383, false))
+	}
+	k.says(data(1, 3, false)).hears(more(1, 100)).bad(t, data(1, 1, false)).says(data(1, 0, true)).ok(t)
+	// What SWindow takes away, a later value gives back.
+	k = open().says(ack(), data(1, 9, false)).hears(window(8), window(9)).says(ack())
+	k.bad(t, data(1, 0, true)).says(ack(), data(1, 0, true)).ok(t)
+	// Other frames of a stream need no window.
+	k = open().says(ack(), data(1, 9, false)).hears(window(0)).says(ack()).bad(t, data(1, 0, true))
+	k.says(more(1, 5), head(1, ended)).ok(t)
 }
 
 func TestP25_3Data(t *testing.T) {
